@@ -1,0 +1,1 @@
+"""A laboratory, whole: wholelab.desk.answers is the way in."""
