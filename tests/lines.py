@@ -43,6 +43,42 @@ def of(tube):
     return [16, tube]
 
 
+def sum_of(tube):
+    return [17, tube]
+
+
+def start_orders():
+    return [20]
+
+
+def order(patient, test):
+    return [21, patient, test]
+
+
+def open_batch(test):
+    return [22, test]
+
+
+def run(number, patient):
+    return [23, number, patient]
+
+
+def result(number, value):
+    return [24, number, value]
+
+
+def close(test, broken):
+    return [25, test, broken]
+
+
+def give(number):
+    return [26, number]
+
+
+def state(number):
+    return [27, number]
+
+
 def flat(calls):
     return [number for call in calls for number in call]
 

@@ -58,6 +58,7 @@ class TubesModel:
     def start(self):
         self.came = []
         self.drawn = []
+        self.spent = []
         self.places = {}
         return 0
 
@@ -101,6 +102,7 @@ class TubesModel:
         if refusal is not None:
             return refusal
         self.drawn.append((tube, volume))
+        self.spent.append((tube, volume))
         return self.left(tube) % 2 ** 31
 
     def put(self, tube, rack, place):
@@ -124,3 +126,98 @@ class TubesModel:
             return -2
         line = self.whence(tube)
         return 0, self.came[line[-1]][2], line[-1], self.left(tube), len(line) - 1
+
+    def sum_of(self, tube):
+        if tube >= len(self.came) or self.came[tube][0] != "sample":
+            return -2
+        own = {other for other in range(len(self.came)) if self.whence(other)[-1] == tube}
+        filled = sum(self.came[other][1] for other in own)
+        drawn = sum(volume for which, volume in self.drawn if which in own)
+        return len(own), filled - drawn, sum(volume for which, volume in self.spent if which in own)
+
+
+class OrdersModel:
+    """Keeps every batch there was, who was run in it and what came of it; how an order stands is reckoned from that."""
+
+    def start(self):
+        self.orders = []
+        self.batches = []
+        self.given = []
+        return 0
+
+    def order(self, patient, test):
+        if test > 15:
+            return -22
+        if len(self.orders) == 256:
+            return -28
+        self.orders.append((patient, test))
+        return len(self.orders) - 1
+
+    def open_one(self, test):
+        still = [each for each in self.batches if each["test"] == test and each["broken"] is None]
+        return still[0] if still else None
+
+    def open_batch(self, test):
+        if test > 15:
+            return -22
+        if self.open_one(test) is not None:
+            return -16
+        self.batches.append({"test": test, "broken": None, "results": {}})
+        return 0
+
+    def last_batch(self, number):
+        mine = [each for each in self.batches if number in each["results"]]
+        return mine[-1] if mine else None
+
+    def state(self, number):
+        if number >= len(self.orders):
+            return -2
+        if number in self.given:
+            return 4
+        last = self.last_batch(number)
+        if last is None:
+            return 0
+        has_result = last["results"][number] is not None
+        if last["broken"] is None:
+            return 2 if has_result else 1
+        return 3 if last["broken"] == 0 and has_result else 0
+
+    def run(self, number, patient):
+        if number >= len(self.orders):
+            return -2
+        if self.orders[number][0] != patient:
+            return -71
+        if self.state(number) != 0:
+            return -16
+        now = self.open_one(self.orders[number][1])
+        if now is None:
+            return -11
+        now["results"][number] = None
+        return 0
+
+    def result(self, number, value):
+        if number >= len(self.orders):
+            return -2
+        if self.state(number) != 1:
+            return -11
+        self.last_batch(number)["results"][number] = value
+        return 0
+
+    def close(self, test, broken):
+        if test > 15:
+            return -22
+        now = self.open_one(test)
+        if now is None:
+            return -11
+        now["broken"] = broken
+        return sum(self.state(number) == 3 for number in now["results"])
+
+    def give(self, number):
+        if number >= len(self.orders):
+            return -2
+        if number in self.given:
+            return -17
+        if self.state(number) != 3:
+            return -11
+        self.given.append(number)
+        return 0, self.last_batch(number)["results"][number]

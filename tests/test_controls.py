@@ -3,6 +3,7 @@
 import random
 import unittest
 
+from tests.chance import rows
 from tests.lines import ask, batch, count, start_controls
 from tests.models import ControlsModel
 from wholelab.controls import Controls
@@ -206,27 +207,11 @@ class Count(unittest.TestCase):
         self.assertEqual(controls.how_many(), 0)
 
 
-def random_rows(chance, mean, spread, many):
-    """Batches near the rules' bounds, leaning to one side for a while, so that long runs come about."""
-    rows = []
-    lean = 1
-    for _ in range(many):
-        if chance.random() < 0.3:
-            lean = -lean
-        width = chance.choice((0, 1, 1, 1, 2, 3))
-        row = []
-        for _ in range(chance.randrange(1, 9)):
-            side = lean if chance.random() < 0.93 else -lean
-            row.append(mean + side * (chance.randrange(width + 1) * spread + chance.choice((0, 1, 1))))
-        rows.append(row)
-    return rows
-
-
 class WhatHolds(unittest.TestCase):
     def controls(self):
         chance = random.Random(1)
         for mean, spread in ((0, 1), (100, 5), (-10 ** 9, 10 ** 6), (10 ** 9, 10 ** 6), (7, 2), (-3, 1000)):
-            yield mean, spread, random_rows(chance, mean, spread, 600)
+            yield mean, spread, rows(chance, mean, spread, 600)
 
     def test_each_rule_is_as_the_document_tells_it(self):
         seen = 0

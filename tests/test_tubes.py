@@ -1,11 +1,10 @@
-"""Part 2: start, sample, take, use, put, at, of, and what holds."""
+"""Part 2: start, sample, take, use, put, at, of, sum, and what holds."""
 
 import random
 import unittest
 
-from tests.lines import ask, at, of, put, sample, start_tubes, take, use
-from tests.models import TubesModel
-from wholelab.tubes import Tubes
+from tests.chance import told, tubes_calls, written
+from tests.lines import ask, at, of, put, sample, start_tubes, sum_of, take, use
 
 HIGHEST = 2 ** 32 - 1
 
@@ -20,7 +19,7 @@ class Start(unittest.TestCase):
         self.assertEqual(ask(start_tubes()), [0])
 
     def test_no_tubes(self):
-        self.assertEqual(tubes(of(0), at(0, 0), use(0, 1), take(0, 1), put(0, 0, 0)), [-2] * 5)
+        self.assertEqual(tubes(of(0), at(0, 0), use(0, 1), take(0, 1), put(0, 0, 0), sum_of(0)), [-2] * 6)
 
     def test_comes_again(self):
         calls = [sample(5, 10), put(0, 3, 4), start_tubes(), of(0), at(3, 4), sample(6, 20), of(0), at(3, 4)]
@@ -167,30 +166,54 @@ class Of(unittest.TestCase):
         self.assertEqual(tubes(*calls)[2:], [(0, 5, 0, 1, 1)] * 2 + [(0, 5, 0, 9, 0)] * 2)
 
 
-def random_calls(chance, many):
-    """Calls on tubes that are mostly there, with small volumes, so that tubes run empty and racks fill."""
-    calls = [("start",)]
-    tube_limit = 4
-    for _ in range(many):
-        tube = HIGHEST if chance.random() < 0.02 else chance.randrange(tube_limit)
-        volume = HIGHEST if chance.random() < 0.05 else chance.randrange(12)
-        rack = chance.choice((0, 1, 15, 15, 16))
-        place = chance.choice((0, 1, 2, 94, 95, 95, 96))
-        name = chance.choice(("sample", "take", "take", "use", "put", "put", "at", "of", "of"))
-        if name == "sample":
-            calls.append((name, chance.randrange(3), volume))
-        elif name in ("take", "use"):
-            calls.append((name, tube, volume))
-        else:
-            calls.append((name,) + {"put": (tube, rack, place), "at": (rack, place), "of": (tube,)}[name])
-        tube_limit = min(tube_limit + chance.randrange(2), 258)
-        if chance.random() < 0.0008:
-            calls.append(("start",))
-            tube_limit = 4
-    return calls
+class Sum(unittest.TestCase):
+    def test_of_a_sample_alone(self):
+        calls = [sample(5, 10), sum_of(0), use(0, 4), sum_of(0), use(0, 6), sum_of(0)]
+        self.assertEqual(tubes(*calls), [0, (1, 10, 0), 6, (1, 6, 4), 0, (1, 0, 10)])
 
+    def test_what_is_taken_is_left_still(self):
+        calls = [sample(5, 10), take(0, 3), sum_of(0), take(0, 7), sum_of(0), use(1, 3), use(2, 1), sum_of(0)]
+        self.assertEqual(tubes(*calls), [0, 1, (2, 10, 0), 2, (3, 10, 0), 0, 6, (3, 6, 4)])
 
-WRITTEN = {"start": start_tubes, "sample": sample, "take": take, "use": use, "put": put, "at": at, "of": of}
+    def test_of_tubes_taken_from_tubes_taken_from_it(self):
+        calls = [sample(5, 100), take(0, 60), take(1, 30), take(2, 15), use(0, 1), use(1, 2), use(2, 4), use(3, 8)]
+        self.assertEqual(tubes(*calls, sum_of(0))[-1], (4, 85, 15))
+
+    def test_of_several_samples_side_by_side(self):
+        calls = [sample(5, 10), sample(5, 20), take(1, 8), sample(6, 30), take(2, 5), take(0, 1), use(4, 2), use(3, 7),
+                 use(5, 1), use(1, 3), use(2, 1)]
+        asked = tubes(*calls, *[sum_of(tube) for tube in range(7)])[-7:]
+        self.assertEqual(asked, [(2, 9, 1), (3, 14, 6), -2, (1, 23, 7), -2, -2, -2])
+
+    def test_of_a_tube_that_was_taken(self):
+        calls = [sample(5, 10), take(0, 4), take(1, 2), sum_of(1), sum_of(2), take(0, 6), sum_of(3), sum_of(0)]
+        self.assertEqual(tubes(*calls)[3:], [-2, -2, 3, -2, (4, 10, 0)])
+
+    def test_of_one_that_is_not_there(self):
+        self.assertEqual(tubes(sum_of(0), sample(5, 10), sum_of(1), sum_of(256), sum_of(HIGHEST)), [-2, 0, -2, -2, -2])
+
+    def test_more_than_2_to_the_31_is_told_whole(self):
+        for used in (1, 2 ** 31 - 1, 2 ** 31, 2 ** 31 + 1, HIGHEST - 1, HIGHEST):
+            calls = [sample(5, HIGHEST), use(0, used), sum_of(0)]
+            self.assertEqual(tubes(*calls)[-1], (1, HIGHEST - used, used))
+        calls = [sample(5, HIGHEST), take(0, 2 ** 31), sum_of(0), use(1, 2 ** 31), use(0, 2 ** 31 - 1), sum_of(0)]
+        self.assertEqual(tubes(*calls), [0, 1, (2, HIGHEST, 0), 0, 0, (2, 0, HIGHEST)])
+
+    def test_of_256_tubes_one_from_another(self):
+        calls = [sample(5, 300)] + [take(i, 300 - i - 1) for i in range(255)] + [use(i, 1) for i in range(256)]
+        self.assertEqual(tubes(*calls, sum_of(0))[-1], (256, 44, 256))
+
+    def test_refused_calls_count_for_nothing(self):
+        calls = [sample(5, 10), take(0, 4), use(0, 7), use(1, 5), use(0, 0), take(1, 5), take(1, 0), use(2, 1), sum_of(0)]
+        self.assertEqual(tubes(*calls)[-1], (2, 10, 0))
+
+    def test_nothing_is_changed_by_asking(self):
+        calls = [sample(5, 10), take(0, 3), use(1, 1), sum_of(0), sum_of(0), of(0), of(1), sum_of(1), sum_of(0)]
+        self.assertEqual(tubes(*calls)[3:], [(2, 9, 1)] * 2 + [(0, 5, 0, 7, 0), (0, 5, 0, 2, 1), -2, (2, 9, 1)])
+
+    def test_behind_a_start_that_comes_again(self):
+        calls = [sample(5, 10), use(0, 4), start_tubes(), sum_of(0), sample(5, 10), sum_of(0)]
+        self.assertEqual(tubes(*calls)[2:], [0, -2, 0, (1, 10, 0)])
 
 
 class WhatHolds(unittest.TestCase):
@@ -198,43 +221,44 @@ class WhatHolds(unittest.TestCase):
         chance = random.Random(2)
         seen = set()
         for _ in range(4):
-            calls = random_calls(chance, 3900)
-            model = TubesModel()
-            told = [getattr(model, name)(*handed) for name, *handed in calls]
-            self.assertEqual(ask(*[WRITTEN[name](*handed) for name, *handed in calls]), told)
-            seen |= {answer for answer in told if not isinstance(answer, tuple)}
+            calls = tubes_calls(chance, 3900)
+            expected = told("tubes", calls)
+            self.assertEqual(ask(*written("tubes", calls)), expected)
+            seen |= {answer for answer in expected if not isinstance(answer, tuple)}
         self.assertLessEqual({-2, -17, -22, -28, -61, 255}, seen)
 
     def test_what_is_left_and_what_was_used_are_what_came(self):
         chance = random.Random(3)
-        came = {0: 1000, 1: HIGHEST, 2: 77}
-        calls = [sample(sample_number + 10, volume) for sample_number, volume in came.items()]
-        for _ in range(1500):
-            calls.append(chance.choice((take, use))(chance.randrange(200), chance.randrange(9)))
-        answered = tubes(*calls, *[of(tube) for tube in range(256)])
-        facts = [answer for answer in answered[len(calls):] if answer != -2]
-        used = dict.fromkeys(came, 0)
-        for call, answer in zip(calls, answered):
-            if call[0] == 13 and answer >= 0:
-                used[facts[call[1]][2]] += call[2]
-        left = dict.fromkeys(came, 0)
-        for fact in facts:
-            left[fact[2]] += fact[3]
-            self.assertEqual(fact[1], fact[2] + 10)
-        self.assertEqual({number: left[number] + used[number] for number in came}, came)
-        self.assertTrue(all(used.values()))
+        came = [1000, HIGHEST, 77]
+        sums = [sum_of(number) for number in range(len(came))]
+        calls = []
+        for number, volume in enumerate(came):
+            calls.append(sample(number + 10, volume))
+        for _ in range(1100):
+            volume = chance.choice((chance.randrange(9), chance.randrange(2 ** 31)))
+            calls.append(chance.choice((take, use))(chance.randrange(60), volume))
+            if chance.random() < 0.5:
+                calls += sums
+        answered = tubes(*calls, *sums)
+        for call, answer in zip(calls + sums, answered):
+            if call[0] == 17:
+                self.assertEqual(answer[1] + answer[2], came[call[1]])
+        for answer in answered[-3:]:
+            self.assertGreater(min(answer), 1)
 
-    def test_what_was_used_is_known_of_the_sample(self):
-        some = Tubes()
-        some.start()
-        for volume in (100, 50):
-            some.sample(5, volume)
-        some.take(1, 30)
-        some.take(2, 20)
-        for number, volume in ((0, 1), (1, 2), (2, 4), (3, 8), (3, 13), (3, 0), (4, 1)):
-            some.use(number, volume)
-        self.assertEqual([tube.used for tube in some.tubes], [1, 14, 0, 0])
-        self.assertEqual(sum(tube.left for tube in some.tubes if tube.origin == 1) + 14, 50)
+    def test_the_sum_is_of_the_tubes_of_the_sample(self):
+        chance = random.Random(6)
+        calls = [sample(number + 10, 500) for number in range(3)]
+        for _ in range(900):
+            calls.append(chance.choice((take, use))(chance.randrange(200), chance.randrange(9)))
+        answered = tubes(*calls, *[of(tube) for tube in range(256)], *[sum_of(number) for number in range(3)])
+        facts = [answer for answer in answered[len(calls):-3] if answer != -2]
+        for number, answer in enumerate(answered[-3:]):
+            own = [fact for fact in facts if fact[2] == number]
+            used = [call[2] for call, left in zip(calls, answered) if call[0] == 13 and left >= 0
+                    and facts[call[1]][2] == number]
+            self.assertEqual(answer, (len(own), sum(fact[3] for fact in own), sum(used)))
+            self.assertEqual({fact[1] for fact in own}, {number + 10})
 
     def test_each_tube_at_one_place_and_each_place_with_one_tube(self):
         chance = random.Random(4)

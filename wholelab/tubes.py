@@ -1,6 +1,6 @@
 """Part 2: tubes, what is taken from them, and where they stand."""
 
-from wholelab.refusals import FULL, NOT_AS_TOLD, NO_SUCH, STANDS_THERE, TOO_LITTLE
+from wholelab.refusals import ALREADY, FULL, NOT_AS_TOLD, NO_SUCH, TOO_LITTLE
 
 MOST_TUBES = 256
 LAST_RACK = 15
@@ -74,7 +74,7 @@ class Tubes:
             return NO_SUCH
         standing = self.standing_at(spot)
         if standing != NO_SUCH and standing != number:
-            return STANDS_THERE
+            return ALREADY
         tube = self.tubes[number]
         tube.spot = spot
         return 0
@@ -91,6 +91,16 @@ class Tubes:
             return [NO_SUCH]
         tube = self.tubes[number]
         return [0, tube.patient, tube.origin, tube.left, tube.depth]
+
+    def sum_of(self, number):
+        """Of a sample: how many tubes, how much is left in all of them, how much was used; a list, as of's is."""
+        if not self.has(number):
+            return [NO_SUCH]
+        sample_tube = self.tubes[number]
+        if sample_tube.origin != number:
+            return [NO_SUCH]
+        left = [tube.left for tube in self.tubes if tube.origin == number]
+        return [len(left), sum(left), sample_tube.used]
 
     def has(self, number):
         return number < len(self.tubes)
